@@ -198,20 +198,41 @@ func TestNames(t *testing.T) {
 	mustName(t, "rising byte by byte", s, seen(opaqueDir), "", "-", ".a", "0", "Z", "_", "a", "\xff")
 }
 
-// P20.1: of a View whose Upper is 0, is no Dir, or is not there.
+// P20.1: of a View whose Upper is no Dir the names are told too, of whatever kind it is.
+func TestNamesOfAnyUpper(t *testing.T) {
+	s := hills()
+	for _, upper := range []int{file, link, hider, free, dir, root} {
+		mustName(t, "an Upper without entries", s, seen(upper, 1, root))
+		fill(s.Upper, upper, named("q", hider), named("f", file), named("b", other), named("q", other), named("n", none))
+		mustName(t, "any Upper", s, seen(upper, 1, root), "b", "q")
+	}
+	for _, kind := range append(far(), api.Free, api.Dir, api.File, api.Link, api.White, -1, 5) {
+		s.Upper.Nodes[root-1].Kind = kind
+		mustName(t, "any kind", s, seen(root, 1, root), "b", "q")
+	}
+	alone := api.Stack{Upper: api.Branch{Nodes: []api.Node{{Entries: []api.Entry{{Ino: 4, Name: "2"}}}, {}, {}, {Kind: api.White}}}}
+	mustName(t, "a free one with one entry", alone, seen(1), "2")
+	itself := api.Stack{Upper: api.Branch{Nodes: []api.Node{{Kind: api.White, Entries: []api.Entry{{Ino: 1, Name: "2"}}}}}}
+	mustName(t, "a White that names itself", itself, seen(1), "2")
+}
+
+// P20.2: what is no Dir is none of view.Tree, so that nothing is found of its entries.
+func TestFindingsOfAnyUpper(t *testing.T) {
+	s := hills(named("f", file), named("l", link), named("d", hider), named("n", free))
+	for _, ino := range []int{file, link, hider, free} {
+		fill(s.Upper, ino, named("z", hider))
+	}
+	mustFind(t, "entries of no Dir", s)
+}
+
+// P20.1: of a View whose Upper is 0, or is not there, and of entries whose nodes are no Whites.
 func TestNamesWrong(t *testing.T) {
 	s := hills(named("q", hider))
 	for i := range s.Upper.Nodes {
-		if s.Upper.Nodes[i].Kind != api.Dir {
-			s.Upper.Nodes[i].Entries = slotted([]api.Entry{named("q", hider)})
-		}
+		s.Upper.Nodes[i].Entries = slotted([]api.Entry{named("q", hider)})
 	}
-	for _, upper := range append(far(), 0, -1, file, link, hider, free, last+1, none) {
+	for _, upper := range append(far(), 0, -1, last+1, none) {
 		mustName(t, "no Upper", s, seen(upper, 1, root))
-	}
-	for _, kind := range append(far(), api.Free, api.File, api.Link, api.White, -1, 5) {
-		s.Upper.Nodes[root-1].Kind = kind
-		mustName(t, "an Upper that is no Dir", s, seen(root, 1, root))
 	}
 	s = hills()
 	for _, ino := range append(far(), 0, -1, last+1) {
@@ -419,7 +440,7 @@ func node(s api.Stack, ino int) api.Node {
 func modelNames(s api.Stack, v api.View) []string {
 	set := map[string]int{}
 	for _, e := range node(s, v.Upper).Entries {
-		if node(s, v.Upper).Kind == api.Dir && node(s, e.Ino).Kind == api.White {
+		if node(s, e.Ino).Kind == api.White {
 			set[e.Name]++
 		}
 	}
