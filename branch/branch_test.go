@@ -14,20 +14,16 @@ import (
 	"craquelure/branch"
 	"craquelure/entry"
 	"craquelure/inode"
+	"craquelure/sample"
 )
 
 // small is a layout of 6 inodes and 8 blocks; a layer has 15 sectors.
 var small = api.Geo{Lowers: 2, Inodes: 6, Blocks: 8, Log: 3}
 
-// far is numbers that lie far off, and at the ends of what an int can hold.
-func far() []int {
-	return []int{math.MinInt, math.MinInt + 1, -1 << 32, -65536, -256, -2, 255, 256, 65535, 65536, 1<<32 + 1, math.MaxInt - 1, math.MaxInt}
-}
-
 // wrongLayouts is layouts of which one number alone is wrong, or all are.
 func wrongLayouts() []api.Geo {
 	l := []api.Geo{{}, {Lowers: math.MaxInt, Inodes: math.MaxInt, Blocks: math.MaxInt, Log: math.MaxInt}}
-	for _, n := range append(far(), -1, 0) {
+	for _, n := range append(sample.Far(), -1, 0) {
 		l = append(l,
 			api.Geo{Lowers: n, Inodes: 6, Blocks: 8, Log: 3}, api.Geo{Lowers: 2, Inodes: n, Blocks: 8, Log: 3},
 			api.Geo{Lowers: 2, Inodes: 6, Blocks: n, Log: 3}, api.Geo{Lowers: 2, Inodes: 6, Blocks: 8, Log: n})
@@ -175,7 +171,7 @@ func TestCutNothing(t *testing.T) {
 		g := api.Geo{Lowers: lowers, Inodes: 6, Blocks: 8, Log: 3}
 		total := 64 * (1 + (lowers+1)*15 + 3)
 		b := mixed(2*total, 2)
-		for _, layer := range append(far(), -1, lowers+1, lowers+2) {
+		for _, layer := range append(sample.Far(), -1, lowers+1, lowers+2) {
 			mustCutNothing(t, "no such layer", g, b[:total], layer)
 		}
 		for layer := 0; layer <= lowers; layer++ {
@@ -314,7 +310,7 @@ func mustData(t *testing.T, why string, l [][]byte, inodes []api.Inode, ino int,
 func TestDataSizes(t *testing.T) {
 	l, whole := fourBlocks(t)
 	for _, kind := range []int{math.MinInt, -1, api.Free, api.Dir, api.File, api.Link, api.White, 5, math.MaxInt} {
-		sizes := append(far(), -1, 257)
+		sizes := append(sample.Far(), -1, 257)
 		for size := range 257 {
 			sizes = append(sizes, size)
 		}
@@ -377,7 +373,7 @@ func TestDataInodes(t *testing.T) {
 	inodes := []api.Inode{x, y}
 	mustData(t, "the first one", l, inodes, 1, whole[:70])
 	mustData(t, "the last one", l, inodes, 2, append(bytes.Clone(whole[192:]), whole[128]))
-	for _, ino := range append(far(), -1, 0, 3, 4, 6, 7) {
+	for _, ino := range append(sample.Far(), -1, 0, 3, 4, 6, 7) {
 		mustData(t, "no such inode", l, inodes, ino, nil)
 		mustData(t, "no inodes", l, nil, ino, nil)
 	}
@@ -440,7 +436,7 @@ func TestDecode(t *testing.T) {
 
 // P12.3: ClausePtr for each pointer that is not 0 and does not count, ClauseInode for each inode that is none, with the layer.
 func TestPtrAndInode(t *testing.T) {
-	for _, layer := range append(far(), -1, 0, 1, 2, 3) {
+	for _, layer := range append(sample.Far(), -1, 0, 1, 2, 3) {
 		l := lay(t, []api.Inode{
 			{Kind: api.Dir, Nlink: 2, Ptr: [4]int{1, 1, 9, 65535}, Attr: 1},
 			{},

@@ -9,6 +9,7 @@ import (
 
 	"craquelure/api"
 	"craquelure/lower"
+	"craquelure/sample"
 )
 
 // Inodes of the layers that the tests of single calls are made of; those of directories are where lists begin.
@@ -16,11 +17,6 @@ const (
 	root, white, file, link, dir, opaqueDir, free = 1, 2, 3, 4, 5, 6, 7
 	last                                          = 8
 )
-
-// far is numbers that lie far off, and at the ends of what an int can hold.
-func far() []int {
-	return []int{math.MinInt, math.MinInt + 1, -1 << 32, -65536, -256, -2, 255, 256, 65535, 65536, 1<<32 + 1, math.MaxInt - 1, math.MaxInt}
-}
 
 func opaque() api.Attr {
 	return api.Attr{Has: api.HasOpaque, Opaque: api.Mark}
@@ -111,7 +107,7 @@ func TestRoots(t *testing.T) {
 	mustRoots(t, "all", stack(layer(), layer(), layer()), 1, 2, 3)
 	mustRoots(t, "more than a layout has", stack(layer(), layer(), layer(), layer(), layer()), 1, 2, 3, 4, 5)
 	mustRoots(t, "some without nodes", stack(api.Branch{}, layer(), api.Branch{}), 2)
-	for _, kind := range append(far(), api.Free, api.File, api.Link, api.White, -1, 5) {
+	for _, kind := range append(sample.Far(), api.Free, api.File, api.Link, api.White, -1, 5) {
 		for at := range 3 {
 			s := stack(layer(), layer(), layer())
 			s.Lowers[at].Nodes[0].Kind = kind
@@ -333,7 +329,7 @@ func TestFindTwoEntries(t *testing.T) {
 
 // P16.2: an entry whose inode is none is as one of a Free node.
 func TestFindNoNode(t *testing.T) {
-	for _, ino := range append(far(), -1, 0, last+1, last+2) {
+	for _, ino := range append(sample.Far(), -1, 0, last+1, last+2) {
 		s := stack(layer(named(ino)...), layer(named(file)...))
 		mustFind(t, "none, above a File", s, roots(s), "x", api.File, 2, file)
 		mustFind(t, "none alone", s, roots(s)[:1], "x", 0)
@@ -347,7 +343,7 @@ func TestFindNoNode(t *testing.T) {
 
 // P16.2: a kind that there is not is neither told, nor does it end anything; but it is not Free.
 func TestFindNoKind(t *testing.T) {
-	for _, kind := range append(far(), -1, 5, 6) {
+	for _, kind := range append(sample.Far(), -1, 5, 6) {
 		s := stack(layer(append(named(free), named(dir)...)...), layer(named(dir)...))
 		s.Lowers[0].Nodes[free-1] = api.Node{Kind: kind, Attr: opaque(), Entries: named(file)}
 		mustFind(t, "no kind", s, roots(s), "x", api.Dir, 2, dir)
@@ -358,7 +354,7 @@ func TestFindNoKind(t *testing.T) {
 // nowhere is Places that are no directories of s.
 func nowhere(s api.Stack) []api.Place {
 	l := places(0, root, 0, dir, -1, root, len(s.Lowers)+1, root, 1, 0, 1, -1, 1, last+1, 1, white, 1, file, 1, link, 1, free, 0, 0)
-	for _, n := range far() {
+	for _, n := range sample.Far() {
 		l = append(l, places(n, root, 1, n, n, n, 0, n)...)
 	}
 	return l

@@ -12,6 +12,7 @@ import (
 	"craquelure/api"
 	"craquelure/merge"
 	"craquelure/path"
+	"craquelure/sample"
 	"craquelure/view"
 )
 
@@ -25,11 +26,6 @@ const (
 )
 
 const gen = 7 // of all lower nodes
-
-// far is numbers that lie far off, and at the ends of what an int can hold.
-func far() []int {
-	return []int{math.MinInt, math.MinInt + 1, -1 << 32, -65536, -256, -2, 255, 256, 65535, 65536, 1<<32 + 1, math.MaxInt - 1, math.MaxInt}
-}
 
 func opaque() api.Attr {
 	return api.Attr{Has: api.HasOpaque, Opaque: api.Mark}
@@ -145,7 +141,7 @@ func TestAtRoot(t *testing.T) {
 	mustAt(t, "none", s, []string{}, api.Dir, both, at(0, root))
 	s.Upper.Nodes[root-1].Attr = opaque()
 	mustAt(t, "opaque", s, nil, api.Dir, seen(root), at(0, root))
-	for _, kind := range append(far(), api.Free, api.File, api.Link, api.White, -1, 5) {
+	for _, kind := range append(sample.Far(), api.Free, api.File, api.Link, api.White, -1, 5) {
 		s := whole()
 		s.Upper.Nodes[root-1].Kind = kind
 		mustAt(t, "no Upper", s, nil, api.Dir, seen(0, 1, root, 2, root), at(1, root))
@@ -243,12 +239,12 @@ func TestBytes(t *testing.T) {
 // P18.2: a Place of an inode, or of a layer, that is not there.
 func TestBytesNowhere(t *testing.T) {
 	s := whole()
-	for _, n := range append(far(), -1, 0, last+1, last+2) {
+	for _, n := range append(sample.Far(), -1, 0, last+1, last+2) {
 		mustBytes(t, "no inode", s, at(0, n), "")
 		mustBytes(t, "no lower inode", s, at(1, n), "")
 		mustBytes(t, "no lower inode", s, at(2, n), "")
 	}
-	for _, n := range append(far(), -1, 3, 4) {
+	for _, n := range append(sample.Far(), -1, 3, 4) {
 		for ino := range last + 1 {
 			mustBytes(t, "no layer", s, at(n, ino), "")
 		}
@@ -291,7 +287,7 @@ func TestBytesOfCopies(t *testing.T) {
 		{"all but these", api.Attr{Has: 31 &^ (api.HasMeta | api.HasOrigin), Origin: meta(1, lowFile, gen).Origin}, "own"},
 		{"all", api.Attr{Has: 31, Origin: meta(1, lowFile, gen).Origin}, "file 1"},
 	}
-	for _, n := range far() {
+	for _, n := range sample.Far() {
 		copies = append(copies, copyOf{"far", meta(n, lowFile, gen), "own"}, copyOf{"far", meta(1, n, gen), "own"}, copyOf{"far", meta(1, lowFile, n), "own"}, copyOf{"far", meta(n, n, n), "own"})
 	}
 	for _, c := range copies {
@@ -306,7 +302,7 @@ func TestBytesOfCopies(t *testing.T) {
 
 // P18.2: just upper Files show bytes of others, and an origin that is empty shows none.
 func TestBytesOfNoCopies(t *testing.T) {
-	for _, kind := range append(far(), api.Free, api.Dir, api.Link, api.White, -1, 5) {
+	for _, kind := range append(sample.Far(), api.Free, api.Dir, api.Link, api.White, -1, 5) {
 		s := whole()
 		s.Upper.Nodes[copied-1].Kind = kind
 		mustBytes(t, "no File", s, at(0, copied), "own")
@@ -375,7 +371,7 @@ func TestSame(t *testing.T) {
 		}
 	}
 	others := make([]api.Seen, 0, 20)
-	for _, kind := range append(far(), 0, 1, 3, 4) {
+	for _, kind := range append(sample.Far(), 0, 1, 3, 4) {
 		y := x()
 		y.Kind = kind
 		others = append(others, y)
@@ -402,7 +398,7 @@ func TestSame(t *testing.T) {
 
 // P18.3: the root is always shown, whatever the stack is.
 func TestRootIsShown(t *testing.T) {
-	for _, kind := range append(far(), 0, 1, 2, 3, 4, 5, -1) {
+	for _, kind := range append(sample.Far(), 0, 1, 2, 3, 4, 5, -1) {
 		s := whole()
 		s.Upper.Nodes[root-1].Kind = kind
 		s.Lowers[0].Nodes[root-1].Kind = kind

@@ -9,6 +9,7 @@ import (
 
 	"craquelure/api"
 	"craquelure/origin"
+	"craquelure/sample"
 	"craquelure/walk"
 )
 
@@ -27,27 +28,8 @@ const (
 	none                    = 99
 )
 
-// far is numbers that lie far off, and at the ends of what an int can hold.
-func far() []int {
-	return []int{math.MinInt, math.MinInt + 1, -1 << 32, -65536, -256, -2, 255, 256, 65535, 65536, 1<<32 + 1, math.MaxInt - 1, math.MaxInt}
-}
-
-// strange is kinds that there are not.
-func strange() []int {
-	return append(far(), -1, 5)
-}
-
 func named(name string, ino int) api.Entry {
 	return api.Entry{Ino: ino, Name: name}
-}
-
-// slotted is the entries, each with a slot of its own.
-func slotted(entries []api.Entry) []api.Entry {
-	l := slices.Clone(entries)
-	for i := range l {
-		l[i].Slot = i + 2
-	}
-	return l
 }
 
 func above(entries ...api.Entry) api.Branch {
@@ -55,7 +37,7 @@ func above(entries ...api.Entry) api.Branch {
 	for ino, kind := range map[int]int{root: api.Dir, api.Work: api.Dir, api.Index: api.Dir, file: api.File, link: api.Link, white: api.White, dir: api.Dir, sub: api.Dir, last: api.Dir} {
 		l[ino-1] = api.Node{Kind: kind, Nlink: 1}
 	}
-	l[root-1].Entries = slotted(entries)
+	l[root-1].Entries = sample.Slotted(entries)
 	return api.Branch{Nodes: l}
 }
 
@@ -81,7 +63,7 @@ func two(up ...api.Entry) api.Stack {
 
 // fill gives an upper node these entries.
 func fill(s api.Stack, ino int, entries ...api.Entry) {
-	s.Upper.Nodes[ino-1].Entries = slotted(entries)
+	s.Upper.Nodes[ino-1].Entries = sample.Slotted(entries)
 }
 
 // mark gives an upper node these attributes.
@@ -102,7 +84,7 @@ func origins() map[int][]api.Origin {
 		{Layer: 1, Ino: lowDir, Gen: gen + 1}, {Layer: 1, Ino: lowFile, Gen: gen - 1}, {Layer: 1, Ino: lowLink}, {Layer: 1, Ino: lowFile, Gen: -gen}, {Layer: 1, Ino: root, Gen: gen},
 		{Layer: 0, Ino: dir, Gen: 0}, {Layer: 0, Ino: file, Gen: 0},
 	}
-	for _, n := range far() {
+	for _, n := range sample.Far() {
 		nothing = append(nothing, api.Origin{Layer: n, Ino: lowFile, Gen: gen}, api.Origin{Layer: 1, Ino: n, Gen: gen}, api.Origin{Layer: 1, Ino: lowFile, Gen: n})
 	}
 	return map[int][]api.Origin{
@@ -152,12 +134,12 @@ func TestOdd(t *testing.T) {
 		for _, has := range []int{api.HasOpaque, 31, 33, -1} {
 			a := api.Attr{Has: has, Opaque: mark}
 			mustOdd(t, "a Dir", api.Node{Kind: api.Dir, Attr: a}, mark != api.Mark)
-			for _, kind := range append(strange(), api.Free, api.File, api.Link, api.White) {
+			for _, kind := range append(sample.Strange(), api.Free, api.File, api.Link, api.White) {
 				mustOdd(t, "no Dir", api.Node{Kind: kind, Attr: a}, true)
 			}
 		}
 	}
-	for _, mark := range append(far(), -api.Mark, api.Mark+256, api.Mark+1<<32) {
+	for _, mark := range append(sample.Far(), -api.Mark, api.Mark+256, api.Mark+1<<32) {
 		mustOdd(t, "a marker far off", api.Node{Kind: api.Dir, Attr: api.Attr{Has: api.HasOpaque, Opaque: mark}}, true)
 	}
 	mustOdd(t, "all else is not asked", api.Node{Kind: api.Dir, Impure: api.Mark + 1, Nlink: -1, Attr: api.Attr{Has: api.HasOpaque, Opaque: api.Mark, Shown: -1}}, false)
@@ -165,9 +147,9 @@ func TestOdd(t *testing.T) {
 
 // P22.1: a node without HasOpaque, whatever Opaque is.
 func TestNotOdd(t *testing.T) {
-	for _, kind := range append(strange(), api.Free, api.Dir, api.File, api.Link, api.White) {
+	for _, kind := range append(sample.Strange(), api.Free, api.Dir, api.File, api.Link, api.White) {
 		for _, has := range []int{0, api.HasRedirect, api.HasOrigin, api.HasShown, api.HasMeta, 30, 32, -2} {
-			for _, mark := range append(far(), 0, 1, api.Mark, api.Mark-1, api.Mark+1, -1) {
+			for _, mark := range append(sample.Far(), 0, 1, api.Mark, api.Mark-1, api.Mark+1, -1) {
 				mustOdd(t, "without HasOpaque", api.Node{Kind: kind, Attr: api.Attr{Has: has, Opaque: mark}}, false)
 			}
 		}
@@ -181,12 +163,12 @@ func TestStale(t *testing.T) {
 	for told, l := range origins() {
 		for _, o := range l {
 			for _, has := range []int{api.HasOrigin, 31, 36, -1} {
-				for _, kind := range append(strange(), api.Free, api.Dir, api.File, api.Link, api.White) {
+				for _, kind := range append(sample.Strange(), api.Free, api.Dir, api.File, api.Link, api.White) {
 					mustStale(t, "an origin", s, api.Node{Kind: kind, Attr: api.Attr{Has: has, Origin: o}}, !fits[[2]int{kind, told}])
 				}
 			}
 			for _, has := range []int{0, api.HasOpaque, api.HasRedirect, api.HasShown, api.HasMeta, 27, 32, -5} {
-				for _, kind := range append(strange(), api.Free, api.Dir, api.File, api.Link, api.White) {
+				for _, kind := range append(sample.Strange(), api.Free, api.Dir, api.File, api.Link, api.White) {
 					mustStale(t, "without HasOrigin", s, api.Node{Kind: kind, Attr: api.Attr{Has: has, Origin: o}}, false)
 				}
 			}
@@ -199,7 +181,7 @@ func TestLacks(t *testing.T) {
 	s := two()
 	for told, l := range origins() {
 		for _, o := range l {
-			for _, kind := range append(strange(), api.Free, api.Dir, api.File, api.Link, api.White) {
+			for _, kind := range append(sample.Strange(), api.Free, api.Dir, api.File, api.Link, api.White) {
 				for _, has := range []int{api.HasMeta | api.HasOrigin, 31, 52, -1} {
 					mustLack(t, "with both", s, api.Node{Kind: kind, Attr: api.Attr{Has: has, Origin: o}}, kind != api.File || told != api.File)
 				}
@@ -250,7 +232,7 @@ func TestWrongStacks(t *testing.T) {
 // P22.3: a node without attributes is none of these, whatever else it is.
 func TestWithoutAttributes(t *testing.T) {
 	s := two(named("f", file), named("l", link), named("w", white), named("d", dir), named("x", free))
-	for _, kind := range append(strange(), api.Free, api.Dir, api.File, api.Link, api.White) {
+	for _, kind := range append(sample.Strange(), api.Free, api.Dir, api.File, api.Link, api.White) {
 		for _, a := range []api.Attr{{}, {Opaque: 1}, {Opaque: api.Mark, Redirect: "//", Origin: api.Origin{Layer: 9, Ino: 9, Gen: 9}, Shown: -1}} {
 			n := api.Node{Kind: kind, Impure: 3, Nlink: 9, Gen: 9, Data: []byte{1}, Entries: []api.Entry{named("x", root)}, Attr: a}
 			mustOdd(t, "without attributes", n, false)
@@ -340,11 +322,11 @@ func TestFindingsElsewhere(t *testing.T) {
 	mark(s, sub, api.Attr{})
 	fill(s, sub, named("up", root), named("self", sub), named("f", file))
 	mustFind(t, "deep, and in rings", s, api.ClauseOpaque, file, api.ClauseOrigin, file, api.ClauseMeta, file)
-	for _, kind := range append(strange(), api.Free, api.File, api.Link, api.White) {
+	for _, kind := range append(sample.Strange(), api.Free, api.File, api.Link, api.White) {
 		s.Upper.Nodes[sub-1].Kind = kind
 		mustFind(t, "in what is no Dir", s)
 	}
-	for _, kind := range append(strange(), api.Free, api.File, api.Link, api.White) {
+	for _, kind := range append(sample.Strange(), api.Free, api.File, api.Link, api.White) {
 		s := two(named("f", file))
 		mark(s, root, api.Attr{Has: 31})
 		mark(s, file, api.Attr{Has: 31})
@@ -352,7 +334,7 @@ func TestFindingsElsewhere(t *testing.T) {
 		mustFind(t, "no root", s)
 	}
 	s = two()
-	for _, ino := range append(far(), 0, -1, last+1, none) {
+	for _, ino := range append(sample.Far(), 0, -1, last+1, none) {
 		s.Upper.Nodes[root-1].Entries = append(s.Upper.Nodes[root-1].Entries, named("d", ino))
 	}
 	mustFind(t, "inodes that are not there", s)

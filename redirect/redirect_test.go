@@ -11,6 +11,7 @@ import (
 	"craquelure/api"
 	"craquelure/path"
 	"craquelure/redirect"
+	"craquelure/sample"
 	"craquelure/view"
 	"craquelure/walk"
 )
@@ -31,14 +32,9 @@ const (
 	none                    = 99
 )
 
-// far is numbers that lie far off, and at the ends of what an int can hold.
-func far() []int {
-	return []int{math.MinInt, math.MinInt + 1, -1 << 32, -65536, -256, -2, 255, 256, 65535, 65536, 1<<32 + 1, math.MaxInt - 1, math.MaxInt}
-}
-
 // kinds is all that are no Dir.
 func kinds() []int {
-	return append(far(), api.Free, api.File, api.Link, api.White, -1, 5)
+	return append(sample.Far(), api.Free, api.File, api.Link, api.White, -1, 5)
 }
 
 func opaque() api.Attr {
@@ -287,7 +283,7 @@ func TestClaimsOfNothing(t *testing.T) {
 		mustClaim(t, "no Dir", s, 1, root, 2, lowOpaque)
 	}
 	s := hills()
-	for _, ino := range append(far(), 0, -1, last+1, none) {
+	for _, ino := range append(sample.Far(), 0, -1, last+1, none) {
 		s.Upper.Nodes[root-1].Entries = append(s.Upper.Nodes[root-1].Entries, named("d", ino))
 	}
 	mustClaim(t, "inodes that are not there", s, 1, root)
@@ -629,7 +625,7 @@ func TestFindingsElsewhere(t *testing.T) {
 	}
 	mustFind(t, "elsewhere, without a redirect", hills(named("x", dir)))
 	s = hills()
-	for _, ino := range append(far(), 0, -1, last+1, none) {
+	for _, ino := range append(sample.Far(), 0, -1, last+1, none) {
 		s.Upper.Nodes[root-1].Entries = append(s.Upper.Nodes[root-1].Entries, named("d", ino))
 	}
 	mustFind(t, "inodes that are not there", s)

@@ -11,6 +11,7 @@ import (
 	"craquelure/api"
 	"craquelure/merge"
 	"craquelure/path"
+	"craquelure/sample"
 	"craquelure/shown"
 	"craquelure/walk"
 )
@@ -30,11 +31,6 @@ const (
 	dir, sub, deep, free, last   = 15, 16, 17, 18, 19
 	none                         = 99
 )
-
-// far is numbers that lie far off, and at the ends of what an int can hold.
-func far() []int {
-	return []int{math.MinInt, math.MinInt + 1, -1 << 32, -65536, -256, -2, 255, 256, 65535, 65536, 1<<32 + 1, math.MaxInt - 1, math.MaxInt}
-}
 
 func opaque() api.Attr {
 	return api.Attr{Has: api.HasOpaque, Opaque: api.Mark}
@@ -138,7 +134,7 @@ func TestAllOfNothing(t *testing.T) {
 	mustAll(t, "nothing", api.Stack{})
 	mustAll(t, "lower layers without nodes", stack(api.Branch{}, api.Branch{}, api.Branch{}))
 	mustAll(t, "no lower layers", stack(above(named("f", file), named("d", dir))), at("/d", api.Dir, 0, dir), at("/f", api.File, 0, file))
-	for _, kind := range append(far(), api.Free, api.File, api.Link, api.White, -1, 5) {
+	for _, kind := range append(sample.Far(), api.Free, api.File, api.Link, api.White, -1, 5) {
 		up := above(named("u", file), named("d", dir), named("e", dir))
 		up.Nodes[root-1].Kind = kind
 		up.Nodes[root-1].Attr = opaque()
@@ -402,12 +398,12 @@ func TestAllOpaque(t *testing.T) {
 func TestAllWrong(t *testing.T) {
 	b := above(named("f", file))
 	low := below(named("g", lowFile))
-	for _, ino := range append(far(), 0, -1, last+1, none) {
+	for _, ino := range append(sample.Far(), 0, -1, last+1, none) {
 		b.Nodes[root-1].Entries = append(b.Nodes[root-1].Entries, api.Entry{Slot: -ino, Ino: ino, Name: "x"})
 		low.Nodes[root-1].Entries = append(low.Nodes[root-1].Entries, api.Entry{Slot: ino, Ino: ino, Name: "y"})
 	}
 	mustPaths(t, "inodes that are not there", stack(b, low), "/f", "/g")
-	for _, kind := range append(far(), -1, 5) {
+	for _, kind := range append(sample.Far(), -1, 5) {
 		b := above(named("d", dir), named("f", file), named("g", file))
 		b.Nodes[dir-1] = api.Node{Kind: kind, Entries: []api.Entry{named("x", file)}}
 		low := below(named("d", lowDir), named("e", lowDir), named("f", lowSub))
@@ -467,7 +463,7 @@ func TestCount(t *testing.T) {
 		mustCount(t, "a place", s, p, want)
 		mustCount(t, "in no stack", api.Stack{}, p, 0)
 	}
-	for _, n := range far() {
+	for _, n := range sample.Far() {
 		mustCount(t, "no place", s, api.Place{Layer: n, Ino: lowFile}, 0)
 		mustCount(t, "no place", s, api.Place{Layer: 1, Ino: n}, 0)
 	}

@@ -19,17 +19,13 @@ import (
 	"craquelure/entry"
 	"craquelure/geo"
 	"craquelure/inode"
+	"craquelure/sample"
 	"craquelure/store"
 	"craquelure/walk"
 )
 
 // small is a layout of two lower layers, of 8 inodes and 12 blocks each.
 var small = api.Geo{Lowers: 2, Inodes: 8, Blocks: 12, Log: 3}
-
-// far is numbers that lie far off, and at the ends of what an int can hold.
-func far() []int {
-	return []int{math.MinInt, math.MinInt + 1, -1 << 32, -65536, -256, -2, 255, 256, 65535, 65536, 1<<32 + 1, math.MaxInt - 1, math.MaxInt}
-}
 
 // image is an image that is laid sector by sector; the blocks of each layer are taken from the first one on.
 type image struct {
@@ -333,7 +329,7 @@ func TestLive(t *testing.T) {
 			t.Errorf("Live of kind %d: %v", kind, got)
 		}
 	}
-	for _, ino := range append(far(), -1, 0, 9, 10) {
+	for _, ino := range append(sample.Far(), -1, 0, 9, 10) {
 		if store.Live(s, ino) || store.Live(api.Stack{}, ino) {
 			t.Errorf("Live of %d", ino)
 		}
@@ -361,7 +357,7 @@ func TestUsed(t *testing.T) {
 			t.Errorf("Used of layer %d: %v", layer, got)
 		}
 	}
-	for _, layer := range append(far(), -1, 3, 4) {
+	for _, layer := range append(sample.Far(), -1, 3, 4) {
 		if got := store.Used(x.b, layer); len(got) != 0 {
 			t.Errorf("Used of layer %d: %v", layer, got)
 		}
@@ -597,7 +593,7 @@ func tree(t *testing.T) *image {
 func TestWholeLayers(t *testing.T) {
 	x := tree(t)
 	mustBeWhole(t, "trees", x, true, true, false)
-	for _, layer := range append(far(), -1, 0, 3, 4) {
+	for _, layer := range append(sample.Far(), -1, 0, 3, 4) {
 		if store.Whole(x.b, layer) {
 			t.Errorf("layer %d is whole", layer)
 		}

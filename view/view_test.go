@@ -11,6 +11,7 @@ import (
 	"craquelure/api"
 	"craquelure/lower"
 	"craquelure/path"
+	"craquelure/sample"
 	"craquelure/view"
 	"craquelure/walk"
 )
@@ -29,11 +30,6 @@ const (
 	last                                    = 17
 	none                                    = 99
 )
-
-// far is numbers that lie far off, and at the ends of what an int can hold.
-func far() []int {
-	return []int{math.MinInt, math.MinInt + 1, -1 << 32, -65536, -256, -2, 255, 256, 65535, 65536, 1<<32 + 1, math.MaxInt - 1, math.MaxInt}
-}
 
 func opaque() api.Attr {
 	return api.Attr{Has: api.HasOpaque, Opaque: api.Mark}
@@ -164,7 +160,7 @@ func TestOpaque(t *testing.T) {
 			if got := view.Opaque(n); got != is {
 				t.Errorf("Opaque of a Dir with %v: %v", a, got)
 			}
-			for _, kind := range append(far(), api.Free, api.File, api.Link, api.White, -1, 5) {
+			for _, kind := range append(sample.Far(), api.Free, api.File, api.Link, api.White, -1, 5) {
 				n.Kind = kind
 				if view.Opaque(n) {
 					t.Errorf("Opaque of kind %d with %v", kind, a)
@@ -213,7 +209,7 @@ func TestRootOpaque(t *testing.T) {
 
 // P17.1: an upper root that is no Dir is none, and hides nothing, though it bears a mark.
 func TestRootNoDir(t *testing.T) {
-	for _, kind := range append(far(), api.Free, api.File, api.Link, api.White, -1, 5) {
+	for _, kind := range append(sample.Far(), api.Free, api.File, api.Link, api.White, -1, 5) {
 		for _, a := range []api.Attr{{}, opaque()} {
 			s := stack(above(named("x", file)), below(), below())
 			s.Upper.Nodes[0].Kind = kind
@@ -261,7 +257,7 @@ func TestPart(t *testing.T) {
 func TestPartAsksNoUpper(t *testing.T) {
 	s, v := hills()
 	s.Upper.Nodes[root-1].Attr = opaque()
-	for _, upper := range append(far(), 0, -1, 1, root, file, white, free, dir, opaqueDir) {
+	for _, upper := range append(sample.Far(), 0, -1, 1, root, file, white, free, dir, opaqueDir) {
 		v.Upper = upper
 		mustPart(t, "any Upper", s, v, dir, "e", 2, lowLast)
 		s.Upper.Nodes[dir-1].Attr = redirected("/d")
@@ -280,11 +276,11 @@ func TestPartNoDir(t *testing.T) {
 				s.Upper.Nodes[i].Attr = a
 			}
 		}
-		for _, ino := range append(far(), white, file, link, free, 0, -1, last+1, last+2, none) {
+		for _, ino := range append(sample.Far(), white, file, link, free, 0, -1, last+1, last+2, none) {
 			mustPart(t, "no Dir", s, r, ino, "d")
 		}
 	}
-	for _, kind := range append(far(), -1, 5) {
+	for _, kind := range append(sample.Far(), -1, 5) {
 		s.Upper.Nodes[dir-1].Kind = kind
 		mustPart(t, "no kind", s, r, dir, "d")
 	}
@@ -422,7 +418,7 @@ func TestStepPairs(t *testing.T) {
 		} else {
 			mustStep(t, "a Dir over no Dir", s(dir), v, "x", api.Dir, seen(dir), at(0, dir))
 		}
-		for _, ino := range append(far(), free, none, 0, -1, last+1) {
+		for _, ino := range append(sample.Far(), free, none, 0, -1, last+1) {
 			switch under {
 			case lowFile:
 				mustStep(t, "nothing over a File", s(ino), v, "x", api.File, nothing, at(1, lowFile))
@@ -456,7 +452,7 @@ func TestStepTwoLowers(t *testing.T) {
 
 // P17.3: an upper node of a kind that there is not is not Free: nothing is shown by it.
 func TestStepNoKind(t *testing.T) {
-	for _, kind := range append(far(), -1, 5, 6) {
+	for _, kind := range append(sample.Far(), -1, 5, 6) {
 		s := stack(above(named("x", last), named("x", file)), below(named("x", lowFile)))
 		s.Upper.Nodes[last-1].Kind = kind
 		mustNotStep(t, "no kind", s, view.Root(s), "x")
@@ -475,7 +471,7 @@ func TestStepTwoEntries(t *testing.T) {
 	mustNotStep(t, "White, Dir", two(white, dir), v, "x")
 	mustStep(t, "Dir, White", two(dir, white), v, "x", api.Dir, seen(dir, 1, lowDir), api.Place{Ino: dir})
 	mustStep(t, "opaque Dir, Dir", two(opaqueDir, dir), v, "x", api.Dir, seen(opaqueDir), api.Place{Ino: opaqueDir})
-	for _, ino := range append(far(), free, none, 0, -1, last+1) {
+	for _, ino := range append(sample.Far(), free, none, 0, -1, last+1) {
 		mustStep(t, "none, File", two(ino, file), v, "x", api.File, nothing, api.Place{Ino: file})
 		mustStep(t, "none, Dir", two(ino, dir), v, "x", api.Dir, seen(dir, 1, lowDir), api.Place{Ino: dir})
 		mustNotStep(t, "none, White", two(ino, white), v, "x")
@@ -511,7 +507,7 @@ func TestStepViews(t *testing.T) {
 		s.Upper.Nodes[ino-1].Entries = []api.Entry{named("x", link), named("y", white), named("z", file)}
 		s.Upper.Nodes[ino-1].Attr = opaque()
 	}
-	for _, upper := range append(far(), 0, -1, last+1, none, white, file, link, free) {
+	for _, upper := range append(sample.Far(), 0, -1, last+1, none, white, file, link, free) {
 		v := seen(upper, 1, root)
 		mustStep(t, "no Upper", s, v, "x", api.Dir, seen(0, 1, lowDir), api.Place{Layer: 1, Ino: lowDir})
 		mustStep(t, "no Upper", s, v, "y", api.Link, api.View{}, api.Place{Layer: 1, Ino: lowLink})
@@ -551,7 +547,7 @@ func TestNames(t *testing.T) {
 
 // P17.4: of a root that is no Dir.
 func TestTreeNoDir(t *testing.T) {
-	for _, kind := range append(far(), api.Free, api.File, api.Link, api.White, -1, 5) {
+	for _, kind := range append(sample.Far(), api.Free, api.File, api.Link, api.White, -1, 5) {
 		s := stack(above(named("x", dir)), below(named("x", lowDir)))
 		s.Upper.Nodes[0].Kind = kind
 		mustTree(t, "no Dir", s, nil, nil)

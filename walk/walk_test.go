@@ -9,13 +9,9 @@ import (
 	"testing"
 
 	"craquelure/api"
+	"craquelure/sample"
 	"craquelure/walk"
 )
-
-// far is numbers that lie far off, and at the ends of what an int can hold.
-func far() []int {
-	return []int{math.MinInt, math.MinInt + 1, -1 << 32, -65536, -256, -2, 255, 256, 65535, 65536, 1<<32 + 1, math.MaxInt - 1, math.MaxInt}
-}
 
 // dir is a directory whose entries name these inodes by "a", "b" and on; their slots fall, as nobody asks for their order.
 func dir(inos ...int) api.Node {
@@ -247,7 +243,7 @@ func TestFromMore(t *testing.T) {
 // P13.1: from 0, from below 0, from one behind the last, and from one that is no Dir.
 func TestFromNone(t *testing.T) {
 	b := tree()
-	for _, ino := range append(far(), -9, -8, -1, 0, 6, 9, 10) {
+	for _, ino := range append(sample.Far(), -9, -8, -1, 0, 6, 9, 10) {
 		mustDirs(t, "from none", b, []int{ino})
 		mustReach(t, "from none", b, []int{ino})
 		mustDirs(t, "from none, and one", b, []int{ino, 8, ino}, api.Way{Ino: 8, Up: -1})
@@ -264,7 +260,7 @@ func TestFromNone(t *testing.T) {
 // P13.1: layers of no nodes.
 func TestNoNodes(t *testing.T) {
 	for _, b := range []api.Branch{{}, {Nodes: []api.Node{}}} {
-		for _, from := range [][]int{nil, {1}, {1, 2, 3}, {0, -1}, far()} {
+		for _, from := range [][]int{nil, {1}, {1, 2, 3}, {0, -1}, sample.Far()} {
 			mustDirs(t, "no nodes", b, from)
 			mustTwice(t, "no nodes", b, from)
 			mustReach(t, "no nodes", b, from)
@@ -304,7 +300,7 @@ func TestNamedTwice(t *testing.T) {
 
 // P13.1, P13.2: entries of Ino 0, below 0, behind the last, and of what is no Dir.
 func TestOtherEntries(t *testing.T) {
-	for _, ino := range append(far(), -3, -2, -1, 0, 3, 4) {
+	for _, ino := range append(sample.Far(), -3, -2, -1, 0, 3, 4) {
 		mustDirs(t, "entries of none", layer(dir(ino, 2, ino), dir(ino)), []int{1}, api.Way{Ino: 1, Up: -1}, api.Way{Ino: 2, Up: 0, Name: "b"})
 		mustTwice(t, "entries of none", layer(dir(ino, 2, ino), dir(ino)), []int{1})
 		mustReach(t, "entries of none", layer(dir(ino), dir()), []int{1}, 1)
@@ -336,7 +332,7 @@ func TestPath(t *testing.T) {
 	for i, want := range [][]string{nil, {"a"}, {"b"}, {"a", "a"}, {"a", "a", "a"}, {"a", "a", "b"}, nil, {"a"}} {
 		mustPath(t, "a walk", l, i, want...)
 	}
-	for _, i := range append(far(), -1, 8, 9) {
+	for _, i := range append(sample.Far(), -1, 8, 9) {
 		mustPath(t, "no place", l, i)
 		mustPath(t, "no place of nothing", nil, i)
 	}
@@ -347,13 +343,13 @@ func TestPath(t *testing.T) {
 
 // P13.2: an Up of -1, of the place itself, of one behind it, and of none ends it.
 func TestPathEnds(t *testing.T) {
-	for _, up := range append(far(), -1, 1, 2, 3, 4, 5) {
+	for _, up := range append(sample.Far(), -1, 1, 2, 3, 4, 5) {
 		l := []api.Way{{Ino: 1, Up: -1, Name: "x"}, {Ino: 2, Up: up, Name: "y"}, {Ino: 3, Up: 1, Name: "z"}, {Ino: 4, Up: 2, Name: "w"}}
 		mustPath(t, "the end", l, 1)
 		mustPath(t, "behind the end", l, 2, "z")
 		mustPath(t, "behind that", l, 3, "z", "w")
 	}
-	for _, up := range append(far(), -1, 0, 1, 2) {
+	for _, up := range append(sample.Far(), -1, 0, 1, 2) {
 		l := []api.Way{{Ino: 1, Up: up, Name: "x"}, {Ino: 2, Up: 0, Name: "y"}}
 		mustPath(t, "the first one", l, 0)
 		mustPath(t, "the one behind it", l, 1, "y")

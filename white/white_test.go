@@ -11,6 +11,7 @@ import (
 	"craquelure/api"
 	"craquelure/lower"
 	"craquelure/merge"
+	"craquelure/sample"
 	"craquelure/shown"
 	"craquelure/view"
 	"craquelure/walk"
@@ -34,11 +35,6 @@ const (
 	none                     = 99
 )
 
-// far is numbers that lie far off, and at the ends of what an int can hold.
-func far() []int {
-	return []int{math.MinInt, math.MinInt + 1, -1 << 32, -65536, -256, -2, 255, 256, 65535, 65536, 1<<32 + 1, math.MaxInt - 1, math.MaxInt}
-}
-
 func opaque() api.Attr {
 	return api.Attr{Has: api.HasOpaque, Opaque: api.Mark}
 }
@@ -51,22 +47,13 @@ func named(name string, ino int) api.Entry {
 	return api.Entry{Ino: ino, Name: name}
 }
 
-// slotted is the entries, each with a slot of its own, that is not its place in the list.
-func slotted(entries []api.Entry) []api.Entry {
-	l := slices.Clone(entries)
-	for i := range l {
-		l[i].Slot = i + 2
-	}
-	return l
-}
-
 // layer is a layer with nodes of these kinds, and a root with these entries.
 func layer(nodes int, kinds map[int]int, entries []api.Entry) api.Branch {
 	l := make([]api.Node, nodes)
 	for ino, kind := range kinds {
 		l[ino-1] = api.Node{Kind: kind, Nlink: 1}
 	}
-	l[root-1] = api.Node{Kind: api.Dir, Nlink: 2, Entries: slotted(entries)}
+	l[root-1] = api.Node{Kind: api.Dir, Nlink: 2, Entries: sample.Slotted(entries)}
 	return api.Branch{Nodes: l}
 }
 
@@ -82,7 +69,7 @@ func below(entries ...api.Entry) api.Branch {
 
 // fill gives a directory of a layer these entries.
 func fill(b api.Branch, ino int, entries ...api.Entry) {
-	b.Nodes[ino-1].Entries = slotted(entries)
+	b.Nodes[ino-1].Entries = sample.Slotted(entries)
 }
 
 func stack(up api.Branch, lowers ...api.Branch) api.Stack {
@@ -157,7 +144,7 @@ func TestHides(t *testing.T) {
 func TestHidesAsksNoUpper(t *testing.T) {
 	s := hills(named("d", hider), named("f", file), named("z", hider), named("q", file), named("l", dir))
 	s.Upper.Nodes[root-1].Attr = opaque()
-	for _, upper := range append(far(), 0, -1, root, file, hider, dir, opaqueDir, free, none) {
+	for _, upper := range append(sample.Far(), 0, -1, root, file, hider, dir, opaqueDir, free, none) {
 		v := seen(upper, 1, root, 2, root)
 		mustHide(t, "any Upper", s, v, true, "d", "f", "l", "g")
 		mustHide(t, "any Upper", s, v, false, "z", "q", "w")
@@ -167,15 +154,15 @@ func TestHidesAsksNoUpper(t *testing.T) {
 // P20.1: Places of no Dir, and ones that are not there, have nothing; what stands behind them is asked.
 func TestHidesWrong(t *testing.T) {
 	s := hills()
-	for _, n := range append(far(), 0, -1, lowFile, lowLink, lowWhite, lowFree, none) {
+	for _, n := range append(sample.Far(), 0, -1, lowFile, lowLink, lowWhite, lowFree, none) {
 		mustHide(t, "no Dir", s, seen(root, 1, n), false, "d", "f", "z")
 		mustHide(t, "no Dir, and a Dir", s, seen(root, 1, n, 1, root), true, "d", "f")
 	}
-	for _, n := range append(far(), 0, -1, 3, 4) {
+	for _, n := range append(sample.Far(), 0, -1, 3, 4) {
 		mustHide(t, "no layer", s, seen(root, n, root), false, "d", "f", "z")
 		mustHide(t, "no layer, and one", s, seen(root, n, root, 2, root), true, "d", "w")
 	}
-	for _, kind := range append(far(), -1, 5) {
+	for _, kind := range append(sample.Far(), -1, 5) {
 		low := below(named("d", lowDir))
 		low.Nodes[lowDir-1].Kind = kind
 		mustHide(t, "a kind that there is not", stack(above(), low), seen(root, 1, root), false, "d")
@@ -206,7 +193,7 @@ func TestNamesOfAnyUpper(t *testing.T) {
 		fill(s.Upper, upper, named("q", hider), named("f", file), named("b", other), named("q", other), named("n", none))
 		mustName(t, "any Upper", s, seen(upper, 1, root), "b", "q")
 	}
-	for _, kind := range append(far(), api.Free, api.Dir, api.File, api.Link, api.White, -1, 5) {
+	for _, kind := range append(sample.Far(), api.Free, api.Dir, api.File, api.Link, api.White, -1, 5) {
 		s.Upper.Nodes[root-1].Kind = kind
 		mustName(t, "any kind", s, seen(root, 1, root), "b", "q")
 	}
@@ -229,17 +216,17 @@ func TestFindingsOfAnyUpper(t *testing.T) {
 func TestNamesWrong(t *testing.T) {
 	s := hills(named("q", hider))
 	for i := range s.Upper.Nodes {
-		s.Upper.Nodes[i].Entries = slotted([]api.Entry{named("q", hider)})
+		s.Upper.Nodes[i].Entries = sample.Slotted([]api.Entry{named("q", hider)})
 	}
-	for _, upper := range append(far(), 0, -1, last+1, none) {
+	for _, upper := range append(sample.Far(), 0, -1, last+1, none) {
 		mustName(t, "no Upper", s, seen(upper, 1, root))
 	}
 	s = hills()
-	for _, ino := range append(far(), 0, -1, last+1) {
+	for _, ino := range append(sample.Far(), 0, -1, last+1) {
 		s.Upper.Nodes[root-1].Entries = append(s.Upper.Nodes[root-1].Entries, named("q", ino))
 	}
 	mustName(t, "inodes that are not there", s, seen(root))
-	for _, kind := range append(far(), api.Free, api.Dir, api.File, api.Link, -1, 5) {
+	for _, kind := range append(sample.Far(), api.Free, api.Dir, api.File, api.Link, -1, 5) {
 		s := hills(named("q", hider))
 		s.Upper.Nodes[hider-1].Kind = kind
 		mustName(t, "of other kinds", s, seen(root))
@@ -346,7 +333,7 @@ func TestFindingsElsewhere(t *testing.T) {
 		fill(s.Upper, ino, named("z", hider))
 	}
 	mustFind(t, "elsewhere", s)
-	for _, kind := range append(far(), api.Free, api.File, api.Link, api.White, -1, 5) {
+	for _, kind := range append(sample.Far(), api.Free, api.File, api.Link, api.White, -1, 5) {
 		s := hills(named("z", hider), named("d", dir))
 		fill(s.Upper, dir, named("z", hider))
 		s.Upper.Nodes[root-1].Kind = kind
@@ -363,7 +350,7 @@ func TestFindingsElsewhere(t *testing.T) {
 		mustFind(t, "no White", s, root, 3)
 	}
 	s = hills()
-	for _, ino := range append(far(), 0, -1, last+1, none) {
+	for _, ino := range append(sample.Far(), 0, -1, last+1, none) {
 		s.Upper.Nodes[root-1].Entries = append(s.Upper.Nodes[root-1].Entries, named("z", ino))
 	}
 	mustFind(t, "inodes that are not there", s)
