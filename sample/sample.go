@@ -29,11 +29,18 @@ func Slotted(entries []api.Entry) []api.Entry {
 	return l
 }
 
-// InTree tells of each inode whether it is in the tree, and of 0 that it is not: what is named by what was told to be, over and over; a second reading of the document's words, beside walk.Reach.
+// InTree tells of each inode whether it is in the tree, and of 0 that it is not.
 func InTree(b api.Branch) []bool {
+	return Reached(b, api.Root)
+}
+
+// Reached tells of each inode whether it is reached from these, and of 0 that it is not: what is named by what was told to be, over and over; a second reading of the document's words, beside walk.Reach.
+func Reached(b api.Branch, from ...int) []bool {
 	in := make([]bool, len(b.Nodes)+1)
-	if len(b.Nodes) >= api.Root {
-		in[api.Root] = b.Nodes[api.Root-1].Kind == api.Dir
+	for _, ino := range from {
+		if ino <= len(b.Nodes) && b.Nodes[ino-1].Kind == api.Dir {
+			in[ino] = true
+		}
 	}
 	for range b.Nodes {
 		for i, n := range b.Nodes {
