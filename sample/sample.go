@@ -1,4 +1,4 @@
-// Package sample is what the tests of several layers hand in: numbers and kinds that may not be, and entries.
+// Package sample is what the tests of several layers hand in: numbers and kinds that may not be, entries, stacks and images.
 package sample
 
 import (
