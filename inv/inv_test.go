@@ -9,12 +9,9 @@ import (
 	"testing"
 
 	"craquelure/api"
-	"craquelure/bitmap"
 	"craquelure/geo"
-	"craquelure/handle"
 	"craquelure/impure"
 	"craquelure/index"
-	"craquelure/inode"
 	"craquelure/inv"
 	"craquelure/journal"
 	"craquelure/links"
@@ -26,17 +23,12 @@ import (
 	"craquelure/white"
 )
 
-// Inodes of the upper layer of clean.
+// Inodes of the upper layer of sample.Full.
 const (
-	dir, file, whiteout, away, link, inner, free, last = 4, 5, 6, 7, 8, 9, 11, 12
+	dir, file, whiteout, away, link, inner, free, last = sample.UpDir, sample.UpFile, sample.UpWhite, sample.UpAway, sample.UpLink, sample.UpInner, sample.UpFree, sample.UpLast
 )
 
-// Inodes of its lower layers.
-const (
-	lowDir, lowFile, lowHid, lowSub, lowAway = 2, 3, 4, 5, 6
-)
-
-var layout = api.Geo{Lowers: 2, Inodes: 12, Blocks: 30, Log: 5}
+var layout = sample.FullGeo()
 
 func find(clause, ino, slot int) api.Finding {
 	return api.Finding{Clause: clause, Ino: ino, Slot: slot}
@@ -47,72 +39,6 @@ func broken(layer int) api.Finding {
 }
 
 var pending = find(api.ClausePending, 0, -1)
-
-// at is an entry in a slot.
-func at(slot int, name string, ino int) api.Entry {
-	return api.Entry{Slot: slot, Ino: ino, Name: name}
-}
-
-func node(kind, nlink int, entries ...api.Entry) api.Node {
-	return api.Node{Kind: kind, Nlink: nlink, Entries: entries}
-}
-
-// clean is a stack with which nothing is wrong, and that has something of all kinds.
-func clean() api.Stack {
-	copied := api.Origin{Layer: 1, Ino: lowFile}
-	name, _ := handle.Name(copied)
-	up := make([]api.Node, layout.Inodes)
-	up[api.Root-1] = node(api.Dir, 4, at(0, "a", dir), at(1, "f", file), at(2, "w", whiteout), at(3, "r", away), at(4, "b", whiteout), at(6, "l", link))
-	up[api.Root-1].Impure = api.Mark
-	up[api.Work-1] = node(api.Dir, 2)
-	up[api.Index-1] = node(api.Dir, 2, at(0, name, file))
-	up[dir-1] = node(api.Dir, 2)
-	up[file-1] = node(api.File, 2)
-	up[file-1].Attr = api.Attr{Has: api.HasOrigin | api.HasShown | api.HasMeta, Origin: copied, Shown: 1}
-	up[whiteout-1] = node(api.White, 2)
-	up[away-1] = node(api.Dir, 2, at(5, "i", inner))
-	up[away-1].Attr = api.Attr{Has: api.HasRedirect, Redirect: "/b"}
-	up[link-1] = node(api.Link, 1)
-	up[link-1].Data = []byte("/a")
-	up[inner-1] = node(api.File, 1)
-	up[inner-1].Data = bytes.Repeat([]byte{7}, 99)
-	one, two := make([]api.Node, layout.Inodes), make([]api.Node, layout.Inodes)
-	one[api.Root-1] = node(api.Dir, 2, at(0, "a", lowDir), at(1, "f", lowFile), at(2, "w", lowHid), at(3, "b", lowAway), at(7, "g", lowFile))
-	one[lowDir-1] = node(api.Dir, 2, at(0, "x", lowSub))
-	one[lowFile-1], one[lowHid-1], one[lowSub-1], one[lowAway-1] = node(api.File, 1), node(api.File, 1), node(api.Link, 1), node(api.Dir, 1)
-	two[api.Root-1] = node(api.Dir, 2, at(0, "a", lowDir))
-	two[lowDir-1] = node(api.Dir, 2)
-	return api.Stack{Geo: layout, Upper: api.Branch{Nodes: up}, Lowers: []api.Branch{{Nodes: one}, {Nodes: two}}}
-}
-
-// fit is the image, in which the upper bitmap says what is used.
-func fit(b []byte) []byte {
-	g, _ := geo.Get(b)
-	return sample.Lay(b, geo.Bitmap(g, 0), bitmap.Put(store.Used(b, 0)))
-}
-
-// logged is the image, with writes in its log.
-func logged(b []byte, ats ...int) []byte {
-	g, _ := geo.Get(b)
-	var l []api.Write
-	for _, at := range ats {
-		l = append(l, api.Write{At: at, Bytes: make([]byte, 64)})
-	}
-	c := bytes.Clone(b)
-	copy(c[64*geo.Log(g):], append(journal.Head(l), journal.Records(l)...))
-	return c
-}
-
-// repoint is the image, in which an upper inode is another one.
-func repoint(b []byte, ino int, change func(x *api.Inode)) []byte {
-	at := geo.Inode(layout, 0, ino)
-	x, _ := inode.Get(b[64*at : 64*at+64])
-	change(&x)
-	c, _ := inode.Put(x)
-	return sample.Lay(b, at, c)
-}
-
-func garbage() []byte { return bytes.Repeat([]byte{5}, 64) }
 
 // mustFind wants these findings, in turn, and that the image is clean just if there are none.
 func mustFind(t *testing.T, why string, b []byte, want ...api.Finding) {
@@ -143,15 +69,15 @@ func mustBeNone(t *testing.T, why string, b []byte) {
 func TestExamples(t *testing.T) {
 	mustBeNone(t, "no image", []byte("no image"))
 	g := api.Geo{Lowers: 1, Inodes: 4, Blocks: 2, Log: 3}
-	root := api.Branch{Nodes: []api.Node{node(api.Dir, 2)}}
+	root := api.Branch{Nodes: []api.Node{sample.Node(api.Dir, 2)}}
 	mustFind(t, "bytes 0", sample.Image(api.Stack{Geo: g, Lowers: []api.Branch{root}}), find(3, 1, -1), find(3, 2, -1), find(3, 3, -1))
-	up := api.Branch{Nodes: []api.Node{node(api.Dir, 2, at(9, "z", 4)), node(api.Dir, 2), node(api.Dir, 2), node(api.White, 1)}}
+	up := api.Branch{Nodes: []api.Node{sample.Node(api.Dir, 2, sample.At(9, "z", 4)), sample.Node(api.Dir, 2), sample.Node(api.Dir, 2), sample.Node(api.White, 1)}}
 	mustFind(t, "a whiteout", sample.Image(api.Stack{Geo: g, Upper: up, Lowers: []api.Branch{root}}), find(15, 1, 9))
 }
 
 // P28.1: nothing is wrong with images of stacks that are as they should be.
 func TestClean(t *testing.T) {
-	mustFind(t, "clean", sample.Image(clean()))
+	mustFind(t, "clean", sample.Image(sample.Full()))
 	r := rand.New(rand.NewSource(3))
 	for range 300 {
 		g := api.Geo{Lowers: 1 + r.Intn(3), Inodes: 4 + r.Intn(10), Blocks: 60, Log: 1 + r.Intn(64)}
@@ -161,7 +87,7 @@ func TestClean(t *testing.T) {
 
 // P28.1: of what is no image geo.Get's error is told, and it is not clean.
 func TestNoImage(t *testing.T) {
-	b := sample.Image(clean())
+	b := sample.Image(sample.Full())
 	mustBeNone(t, "nothing", nil)
 	mustBeNone(t, "nothing", []byte{})
 	for n := range len(b) {
@@ -181,89 +107,24 @@ func TestNoImage(t *testing.T) {
 	mustBeNone(t, "without its first sector", b[64:])
 }
 
-// harm is what makes something wrong with a clean stack, or with its image, and what is found then.
-type harm struct {
-	why   string
-	stack func(up []api.Node)
-	image func(b []byte) []byte
-	want  []api.Finding
-}
-
-func enter(n *api.Node, e api.Entry) {
-	n.Entries = append(n.Entries, e)
-}
-
-func attr(a api.Attr, ino int) func(up []api.Node) {
-	return func(up []api.Node) { up[ino-1].Attr = a }
-}
-
-// harms has one of each clause, by its number.
-func harms() []harm {
-	redirected := func(ino int, to string) func(up []api.Node) {
-		return attr(api.Attr{Has: api.HasRedirect, Redirect: to}, ino)
-	}
-	return []harm{
-		1:  {why: "a pointer", image: func(b []byte) []byte { return repoint(b, file, func(x *api.Inode) { x.Ptr[3] = 99 }) }, want: []api.Finding{find(1, file, 3)}},
-		2:  {why: "attributes", image: func(b []byte) []byte { return fit(repoint(b, inner, func(x *api.Inode) { x.Attr = 30 })) }, want: []api.Finding{find(2, inner, -1)}},
-		3:  {why: "a special inode", stack: func(up []api.Node) { up[api.Work-1] = api.Node{} }, want: []api.Finding{find(3, api.Work, -1)}},
-		4:  {why: "an inode", image: func(b []byte) []byte { return sample.Lay(b, geo.Inode(layout, 0, free), garbage()) }, want: []api.Finding{find(4, free, -1)}},
-		5:  {why: "an entry", stack: func(up []api.Node) { enter(&up[away-1], at(9, "n", free)) }, want: []api.Finding{find(5, away, 9)}},
-		6:  {why: "a directory that is named twice", stack: func(up []api.Node) { enter(&up[away-1], at(9, "n", dir)); up[away-1].Nlink = 3 }, want: []api.Finding{find(6, away, 9)}},
-		7:  {why: "an orphan", stack: func(up []api.Node) { up[last-1] = node(api.File, 3) }, want: []api.Finding{find(7, last, -1)}},
-		8:  {why: "a marker", stack: attr(api.Attr{Has: api.HasOpaque, Opaque: 1}, dir), want: []api.Finding{find(8, dir, -1)}},
-		9:  {why: "a redirect of a File", stack: redirected(inner, "/a"), want: []api.Finding{find(9, inner, -1)}},
-		10: {why: "a redirect to its own path", stack: redirected(dir, "/a"), want: []api.Finding{find(10, dir, -1)}},
-		11: {why: "a redirect to nothing", stack: redirected(away, "/n"), want: []api.Finding{find(11, away, -1)}},
-		12: {why: "a redirect to what another one has", stack: redirected(away, "/a"), want: []api.Finding{find(12, away, -1)}},
-		13: {why: "an origin", stack: attr(api.Attr{Has: api.HasOrigin, Origin: api.Origin{Layer: 1, Ino: lowFile, Gen: 1}}, link), want: []api.Finding{find(13, link, -1)}},
-		14: {why: "bytes that are nowhere", stack: attr(api.Attr{Has: api.HasMeta}, inner), want: []api.Finding{find(14, inner, -1)}},
-		15: {why: "a whiteout", stack: func(up []api.Node) { enter(&up[away-1], at(9, "n", whiteout)); up[whiteout-1].Nlink = 3 }, want: []api.Finding{find(15, away, 9)}},
-		16: {why: "an entry of the index", stack: func(up []api.Node) { enter(&up[api.Index-1], at(9, "n", inner)); up[inner-1].Nlink = 2 }, want: []api.Finding{find(16, api.Index, 9)}},
-		17: {why: "what is left over", stack: func(up []api.Node) { enter(&up[api.Work-1], at(9, "n", inner)); up[inner-1].Nlink = 2 }, want: []api.Finding{find(17, api.Work, 9)}},
-		18: {why: "impure without copies", stack: func(up []api.Node) { up[away-1].Impure = api.Mark }, want: []api.Finding{find(18, away, -1)}},
-		19: {why: "another number of names", stack: func(up []api.Node) { up[link-1].Nlink = 9 }, want: []api.Finding{find(19, link, -1)}},
-		20: {why: "another number of names that are shown", stack: func(up []api.Node) { up[file-1].Attr.Shown = 9 }, want: []api.Finding{find(20, file, -1)}},
-		21: {why: "a bitmap", image: func(b []byte) []byte { b[64*geo.Bitmap(layout, 0)+3] ^= 1; return b }, want: []api.Finding{find(21, 0, -1)}},
-		22: {why: "a lower layer", image: func(b []byte) []byte { return sample.Lay(b, geo.Inode(layout, 2, last), garbage()) }, want: []api.Finding{broken(2)}},
-		23: {why: "a log", image: func(b []byte) []byte { return logged(b, geo.Bitmap(layout, 0)) }, want: []api.Finding{pending}},
-	}
-}
-
-// harmed is the image of a clean stack with some harms.
-func harmed(l ...harm) []byte {
-	s := clean()
-	for _, h := range l {
-		if h.stack != nil {
-			h.stack(s.Upper.Nodes)
-		}
-	}
-	b := sample.Image(s)
-	for _, h := range l {
-		if h.image != nil {
-			b = h.image(b)
-		}
-	}
-	return b
-}
-
 // P28.1: a finding of each clause, and so of each of the layers that tell them, alone.
 func TestEachClause(t *testing.T) {
-	for clause, h := range harms()[1:] {
-		if len(h.want) != 1 || h.want[0].Clause != clause+1 {
-			t.Fatal(h.why)
+	for clause, h := range sample.Harms()[1:] {
+		if len(h.Want) != 1 || h.Want[0].Clause != clause+1 {
+			t.Fatal(h.Why)
 		}
-		mustFind(t, h.why, harmed(h), h.want...)
+		mustFind(t, h.Why, sample.Harmed(h), h.Want...)
 	}
 }
 
 // P28.1: harms that touch other nodes, two and two: both are found, in Order.
 func TestTwoClauses(t *testing.T) {
 	apart := []int{1, 4, 5, 7, 8, 13, 14, 16, 18, 20, 22, 23}
-	l := harms()
+	l := sample.Harms()
 	for _, i := range apart {
 		for _, j := range apart {
 			if i < j {
-				mustFind(t, l[i].why+", "+l[j].why, harmed(l[j], l[i]), l[i].want[0], l[j].want[0])
+				mustFind(t, l[i].Why+", "+l[j].Why, sample.Harmed(l[j], l[i]), l[i].Want[0], l[j].Want[0])
 			}
 		}
 	}
@@ -271,24 +132,24 @@ func TestTwoClauses(t *testing.T) {
 
 // P28.1: many harms at once, lower layers that are not whole and a log that is pending among them.
 func TestManyClauses(t *testing.T) {
-	l := harms()
-	b := harmed(l[1], l[4], l[5], l[7], l[8], l[11], l[13], l[14], l[16], l[17], l[18], l[20], l[21], l[22], l[23])
-	b = sample.Lay(b, geo.Inode(layout, 1, last), garbage())
+	l := sample.Harms()
+	b := sample.Harmed(l[1], l[4], l[5], l[7], l[8], l[11], l[13], l[14], l[16], l[17], l[18], l[20], l[21], l[22], l[23])
+	b = sample.Lay(b, geo.Inode(layout, 1, last), sample.Garbage())
 	mustFind(t, "many", b,
 		find(1, file, 3), find(4, free, -1), find(5, away, 9), find(7, last, -1), find(8, dir, -1), find(11, away, -1),
 		find(13, link, -1), find(14, inner, -1), find(16, 3, 9), find(17, 2, 9), find(18, away, -1), find(19, inner, -1),
 		find(20, file, -1), find(21, 0, -1), broken(1), broken(2), pending)
-	b = harmed(l[7], l[18], l[22], l[23])
+	b = sample.Harmed(l[7], l[18], l[22], l[23])
 	mustFind(t, "a lower layer and a log", b, find(7, last, -1), find(18, away, -1), broken(2), pending)
 }
 
 // P28.1: the findings of a clause stand by inode and slot.
 func TestOneClause(t *testing.T) {
-	s := clean()
+	s := sample.Full()
 	up := s.Upper.Nodes
-	up[away-1].Entries = []api.Entry{at(0, "n", whiteout), at(5, "i", inner), at(9, "o", whiteout)}
-	up[api.Root-1].Entries = append(up[api.Root-1].Entries, at(15, "q", whiteout))
-	up[dir-1].Entries = []api.Entry{at(7, "z", whiteout), at(8, "x", whiteout)}
+	up[away-1].Entries = []api.Entry{sample.At(0, "n", whiteout), sample.At(5, "i", inner), sample.At(9, "o", whiteout)}
+	up[api.Root-1].Entries = append(up[api.Root-1].Entries, sample.At(15, "q", whiteout))
+	up[dir-1].Entries = []api.Entry{sample.At(7, "z", whiteout), sample.At(8, "x", whiteout)}
 	up[whiteout-1].Nlink = 9
 	up[link-1].Nlink, up[api.Index-1].Nlink = 0, 65535
 	mustFind(t, "by inode and slot", sample.Image(s),
@@ -298,12 +159,12 @@ func TestOneClause(t *testing.T) {
 
 // P28.1: each set of lower layers that are not whole, of one to three layers, with a log that is pending and without.
 func TestLower(t *testing.T) {
-	root := api.Branch{Nodes: []api.Node{node(api.Dir, 2)}}
-	up := api.Branch{Nodes: slices.Repeat([]api.Node{node(api.Dir, 2)}, 3)}
+	root := api.Branch{Nodes: []api.Node{sample.Node(api.Dir, 2)}}
+	up := api.Branch{Nodes: slices.Repeat([]api.Node{sample.Node(api.Dir, 2)}, 3)}
 	breaks := []func(n []api.Node){
 		func(n []api.Node) { n[0] = api.Node{} },
-		func(n []api.Node) { n[3] = node(api.File, 1) },
-		func(n []api.Node) { enter(&n[0], at(3, "a", 2)) },
+		func(n []api.Node) { n[3] = sample.Node(api.File, 1) },
+		func(n []api.Node) { n[0].Entries = append(n[0].Entries, sample.At(3, "a", 2)) },
 	}
 	for lowers := 1; lowers <= 3; lowers++ {
 		for set := range 1 << lowers {
@@ -321,7 +182,7 @@ func TestLower(t *testing.T) {
 				}
 				b := sample.Image(s)
 				mustFind(t, "lower layers", b, want...)
-				mustFind(t, "lower layers, and a log", logged(b, geo.Inode(s.Geo, 0, 4)), append(want, pending)...)
+				mustFind(t, "lower layers, and a log", sample.Logged(b, geo.Inode(s.Geo, 0, 4)), append(want, pending)...)
 				b[64*geo.Inode(s.Geo, 0, 4)] = 9
 				mustFind(t, "lower layers, and an inode", b, append([]api.Finding{find(4, 4, -1)}, want...)...)
 			}
@@ -331,15 +192,15 @@ func TestLower(t *testing.T) {
 
 // P28.1: a log is pending just if something is read of it; its writes are not done.
 func TestPending(t *testing.T) {
-	b := sample.Image(clean())
+	b := sample.Image(sample.Full())
 	root := geo.Inode(layout, 0, 1)
-	mustFind(t, "a log of one", logged(b, root), pending)
-	mustFind(t, "a log of two", logged(b, root, root), pending)
-	mustFind(t, "no sector of the upper layer", logged(b, geo.Log(layout)))
-	mustFind(t, "of the lower layers", logged(b, root, geo.Inode(layout, 1, 1)))
+	mustFind(t, "a log of one", sample.Logged(b, root), pending)
+	mustFind(t, "a log of two", sample.Logged(b, root, root), pending)
+	mustFind(t, "no sector of the upper layer", sample.Logged(b, geo.Log(layout)))
+	mustFind(t, "of the lower layers", sample.Logged(b, root, geo.Inode(layout, 1, 1)))
 	mustFind(t, "Empty", sample.Lay(b, geo.Log(layout), journal.Empty()))
-	mustFind(t, "garbage", sample.Lay(b, geo.Log(layout), garbage()))
-	c := logged(b, root)
+	mustFind(t, "garbage", sample.Lay(b, geo.Log(layout), sample.Garbage()))
+	c := sample.Logged(b, root)
 	c[64*(geo.Log(layout)+1)] ^= 1
 	mustFind(t, "another record", c)
 	mustFind(t, "none, that says it has", sample.Lay(b, geo.Log(layout), journal.Head(nil)))
@@ -435,94 +296,12 @@ func wrong(b []byte) []api.Finding {
 	return ordered
 }
 
-// alter makes a node that is not free another one, in some part.
-func alter(r *rand.Rand, n *api.Node, inodes int) {
-	if n.Kind == api.Free {
-		return
-	}
-	name := "abcde"[r.Intn(5):][:1]
-	switch r.Intn(9) {
-	case 0:
-		n.Nlink = r.Intn(5)
-	case 1:
-		n.Impure = r.Intn(2) * api.Mark
-	case 2:
-		n.Attr = api.Attr{Has: api.HasMeta | n.Attr.Has, Opaque: n.Attr.Opaque, Redirect: n.Attr.Redirect, Origin: n.Attr.Origin, Shown: n.Attr.Shown}
-	case 3:
-		n.Attr = api.Attr{Has: api.HasOpaque | api.HasShown, Opaque: 120 + r.Intn(3), Shown: r.Intn(3)}
-	case 4:
-		n.Attr = api.Attr{Has: api.HasRedirect, Redirect: []string{name, "/" + name + "/a", "//"}[r.Intn(3)]}
-	case 5:
-		n.Attr = api.Attr{Has: api.HasOrigin, Origin: api.Origin{Layer: r.Intn(4), Ino: r.Intn(9), Gen: r.Intn(3)}}
-	case 6:
-		if n.Kind == api.Dir {
-			n.Entries = append(n.Entries, at(8+r.Intn(8), name, 1+r.Intn(inodes+2)))
-		}
-	case 7:
-		if n.Kind == api.File {
-			*n = api.Node{Kind: api.White, Nlink: n.Nlink}
-		}
-	default:
-		n.Attr = api.Attr{Has: api.HasRedirect, Redirect: "/" + name}
-	}
-}
-
-// point gives some directories one redirect, to a lower directory if there is one.
-func point(r *rand.Rand, s api.Stack) {
-	to := "/a"
-	for _, e := range s.Lowers[0].Nodes[0].Entries {
-		if s.Lowers[0].Nodes[e.Ino-1].Kind == api.Dir {
-			to = "/" + e.Name
-		}
-	}
-	up := s.Upper.Nodes
-	for i, n := range up {
-		if i >= api.Index && n.Kind == api.Dir && r.Intn(3) > 0 {
-			up[i].Attr = api.Attr{Has: api.HasRedirect, Redirect: to}
-		}
-	}
-}
-
-// some is an image with which this and that is wrong.
-func some(t *testing.T, r *rand.Rand) []byte {
-	g := api.Geo{Lowers: 1 + r.Intn(3), Inodes: 6 + r.Intn(8), Blocks: 60, Log: 1 + r.Intn(9)}
-	s := sample.Stack(g, r.Intn)
-	if r.Intn(4) == 0 {
-		point(r, s)
-	}
-	for range r.Intn(6) {
-		alter(r, &s.Upper.Nodes[r.Intn(g.Inodes)], g.Inodes)
-	}
-	if r.Intn(6) == 0 {
-		alter(r, &s.Lowers[0].Nodes[r.Intn(g.Inodes)], g.Inodes)
-	}
-	b := sample.Image(s)
-	if b == nil {
-		t.Fatal(s)
-	}
-	upper := 64 * geo.Bitmap(g, 0)
-	end := 64 * geo.Log(g)
-	for range r.Intn(3) {
-		b[upper+r.Intn(end-upper)] ^= 1 << r.Intn(8)
-	}
-	if r.Intn(3) == 0 {
-		copy(b[upper+64*r.Intn(20):end], b[upper+64*r.Intn(20):][:64])
-	}
-	if r.Intn(8) == 0 {
-		b[64+r.Intn(end-64)] ^= 1
-	}
-	if room := journal.Cap(g); room > 0 && r.Intn(4) == 0 {
-		b = logged(b, slices.Repeat([]int{geo.Bitmap(g, 0) + r.Intn(9)}, 1+r.Intn(room))...)
-	}
-	return b
-}
-
 // P28.1, P28.2: many images, held against a second reading of the words; no finding is told twice, and each is of a clause, and of a layer that there is.
 func TestMany(t *testing.T) {
 	r := rand.New(rand.NewSource(1))
 	var met [api.ClausePending + 1]int
 	for range 4000 {
-		b := some(t, r)
+		b := sample.Wrong(r.Intn)
 		g, _ := geo.Get(b)
 		l := wrong(b)
 		mustFind(t, "any image", b, l...)
@@ -568,9 +347,9 @@ func TestAnyBytes(t *testing.T) {
 
 // The answers share no memory with the image, nor with other answers.
 func TestAnswersShareNothing(t *testing.T) {
-	l := harms()
-	b := harmed(l[5], l[20], l[22], l[23])
-	want := []api.Finding{l[5].want[0], l[20].want[0], l[22].want[0], l[23].want[0]}
+	l := sample.Harms()
+	b := sample.Harmed(l[5], l[20], l[22], l[23])
+	want := []api.Finding{l[5].Want[0], l[20].Want[0], l[22].Want[0], l[23].Want[0]}
 	first, _ := inv.All(b)
 	again, _ := inv.All(b)
 	clear(first[:cap(first)])

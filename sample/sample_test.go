@@ -93,3 +93,47 @@ func TestLay(t *testing.T) {
 		t.Error(got, b)
 	}
 }
+
+// There is a harm of each clause, and just that is found then.
+func TestHarms(t *testing.T) {
+	for clause, h := range sample.Harms() {
+		if clause == 0 {
+			continue
+		}
+		if l, _ := inv.All(sample.Harmed(h)); len(h.Want) != 1 || h.Want[0].Clause != clause || !reflect.DeepEqual(l, h.Want) {
+			t.Errorf("%s: %v, not %v", h.Why, l, h.Want)
+		}
+	}
+	if !inv.Clean(sample.Harmed()) {
+		t.Error("no harm")
+	}
+}
+
+// All is met that can be wrong with an image, and that nothing is; Loose has much of what is wrong with how it is stored.
+func TestWrongAndLoose(t *testing.T) {
+	r := rand.New(rand.NewSource(2))
+	var wrong, loose [api.ClausePending + 1]int
+	for range 1500 {
+		count(t, &wrong, sample.Wrong(r.Intn))
+		count(t, &loose, sample.Loose(r.Intn))
+	}
+	for clause, n := range wrong {
+		if n < 5 || clause >= api.ClausePtr && clause <= api.ClauseOrphan && loose[clause] < 100 {
+			t.Errorf("clause %d: %d, %d", clause, n, loose[clause])
+		}
+	}
+}
+
+// count counts the images in which a clause is found, and those in which none is.
+func count(t *testing.T, met *[api.ClausePending + 1]int, b []byte) {
+	l, e := inv.All(b)
+	if e != api.OK {
+		t.Fatal(e)
+	}
+	if len(l) == 0 {
+		met[0]++
+	}
+	for _, f := range l {
+		met[f.Clause]++
+	}
+}

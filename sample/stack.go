@@ -96,7 +96,7 @@ func dress(s api.Stack, ino int, pick func(int) int) {
 			n.Attr.Has, n.Attr.Opaque = api.HasOpaque, api.Mark
 		}
 		if pick(2) == 0 {
-			n.Attr.Has, n.Attr.Redirect = n.Attr.Has|api.HasRedirect, to(pick)
+			n.Attr.Has, n.Attr.Redirect = n.Attr.Has|api.HasRedirect, target(pick)
 		}
 		if pick(4) == 0 {
 			copyOf(s, ino, pick)
@@ -118,7 +118,7 @@ func dress(s api.Stack, ino int, pick func(int) int) {
 	}
 }
 
-func to(pick func(int) int) string {
+func target(pick func(int) int) string {
 	switch pick(3) {
 	case 0:
 		return some(pick)
